@@ -205,8 +205,8 @@ func TestStage9Arrays(t *testing.T) {
 		{asserted("(= j (select (store n i k) i))", "(= (select m k) (select m j))"), []string{"(= j (select (store n i k) i))", "(= (select m k) (select m j))"}, []string{"(= (select (store n i k) i) k)", "(or (= j i) (= (select (store n i k) j) (select n j)))", "(or (= k i) (= (select (store n i k) k) (select n k)))"}, nil},
 		// The indexes of other sorts of arrays are others.
 		{asserted("(= (select " + store + " (select o x)) j)"), []string{"(= (select " + store + " (select o x)) j)"}, []string{"(= (select " + store + " i) j)", "(or (= (select o x) i) (= (select " + store + " (select o x)) (select m (select o x))))"}, nil},
-		{asserted("(= (select (store o x i) y) j)"), []string{"(= (select (store o x i) y) j)"}, []string{"(= (select (store o x i) x) i)", asBounds("y", "x"), "(or (= y x) (= (select (store o x i) y) (select o y)))", asBounds("x", "y")}, []string{"(= x y)"}},
-		{asserted("(= y x)", "(= (select (store o x i) y) j)"), []string{"(= y x)", "(= (select (store o x i) y) j)"}, []string{asBounds("y", "x"), "(= (select (store o x i) x) i)", "(or (= y x) (= (select (store o x i) y) (select o y)))"}, nil},
+		{asserted("(= (select (store o x i) y) j)"), []string{"(= (select (store o x i) y) j)"}, []string{"(= (select (store o x i) x) i)", asBounds("y", "x"), "(or (= y x) (= (select (store o x i) y) (select o y)))", asBounds("x", "y")}, []string{"(= y x)", "(= x y)"}},
+		{asserted("(= y x)", "(= (select (store o x i) y) j)"), []string{"(= y x)", "(= (select (store o x i) y) j)"}, []string{asBounds("y", "x"), "(= (select (store o x i) x) i)", "(or (= y x) (= (select (store o x i) y) (select o y)))"}, []string{"(= y x)"}},
 		{asserted("(< (select (store e i x) i) 3)"), []string{"(< (select (store e i x) i) 3)"}, []string{asBounds("(select (store e i x) i)", "x"), "(= (select (store e i x) i) x)", asBounds("(select (store e i x) i)", "(select e i)")}, []string{"(= (select (store e i x) i) (select e i))"}},
 	})
 }
@@ -230,15 +230,21 @@ func TestStage9Selects(t *testing.T) {
 
 func TestStage9Shared(t *testing.T) {
 	checkRows(t, declaredMix+"(declare-const b (Array Int Int))(declare-const d (Array Int Real))(declare-fun l (U U) U)(declare-fun n (Int Int) U)", []loweredRow{
-		{asserted("(= (f x) (f y))"), []string{"(= (f x) (f y))"}, []string{asBounds("(f x)", "(f y)"), asBounds("x", "y")}, []string{"(= x y)"}},
-		{asserted("(= (f y) (f x))"), []string{"(= (f y) (f x))"}, []string{asBounds("(f y)", "(f x)"), asBounds("y", "x")}, []string{"(= y x)"}},
+		{asserted("(= (f x) (f y))"), []string{"(= (f x) (f y))"}, []string{asBounds("(f x)", "(f y)"), asBounds("x", "y")}, []string{"(= x y)", "(= (f x) (f y))"}},
+		{asserted("(= (f y) (f x))"), []string{"(= (f y) (f x))"}, []string{asBounds("(f y)", "(f x)"), asBounds("y", "x")}, []string{"(= y x)", "(= (f y) (f x))"}},
 		{asserted("(< (f y) (f x))"), []string{"(< (f y) (f x))"}, []string{asBounds("y", "x"), asBounds("(f y)", "(f x)")}, []string{"(= y x)", "(= (f y) (f x))"}},
 		{asserted("(< x y)", "(< (f y) (f x))"), []string{"(< x y)", "(< (f y) (f x))"}, []string{asBounds("y", "x"), asBounds("(f y)", "(f x)")}, []string{"(= y x)", "(= (f y) (f x))"}},
 		{asserted("(< (+ (f x) (f y)) (f 3))"), []string{"(< (+ (f x) (f y)) (f 3))"}, []string{asBounds("x", "y"), asBounds("(f x)", "(f y)"), asBounds("x", "3"), asBounds("(f x)", "(f 3)"), asBounds("y", "3"), asBounds("(f y)", "(f 3)")}, []string{"(= x y)", "(= (f x) (f y))", "(= x 3)", "(= (f x) (f 3))", "(= y 3)", "(= (f y) (f 3))"}},
-		{asserted("(= x y)", "(< (f x) (f y))"), []string{"(= x y)", "(< (f x) (f y))"}, []string{asBounds("x", "y"), asBounds("(f x)", "(f y)")}, []string{"(= (f x) (f y))"}},
+		{asserted("(= x y)", "(< (f x) (f y))"), []string{"(= x y)", "(< (f x) (f y))"}, []string{asBounds("x", "y"), asBounds("(f x)", "(f y)")}, []string{"(= x y)", "(= (f x) (f y))"}},
 		{asserted("(= y x)", "(< (f x) (f y))"), []string{"(= y x)", "(< (f x) (f y))"}, []string{asBounds("y", "x"), asBounds("x", "y"), asBounds("(f x)", "(f y)")}, []string{"(= x y)", "(= (f x) (f y))"}},
-		{asserted("(distinct x y)", "(= (f x) (f y))"), []string{"(not (= x y))", "(= (f x) (f y))"}, []string{asBounds("x", "y"), asBounds("(f x)", "(f y)")}, nil},
+		{asserted("(distinct x y)", "(= (f x) (f y))"), []string{"(not (= x y))", "(= (f x) (f y))"}, []string{asBounds("x", "y"), asBounds("(f x)", "(f y)")}, []string{"(= x y)", "(= (f x) (f y))"}},
 		{asserted("(< (f (f x)) x)"), []string{"(< (f (f x)) x)"}, []string{asBounds("x", "(f x)"), asBounds("(f x)", "(f (f x))")}, []string{"(= x (f x))", "(= (f x) (f (f x)))"}},
+		// Each is there once, however many pairs ask for it and whether or not it was made ahead of them.
+		{asserted("(< (f x) (f y))", "(= (n (f x) y) (n (f y) y))"), []string{"(< (f x) (f y))", "(= (n (f x) y) (n (f y) y))"}, []string{asBounds("x", "y"), asBounds("(f x)", "(f y)")}, []string{"(= x y)", "(= (f x) (f y))"}},
+		{asserted("(= (n (f x) y) (n (f y) y))", "(= (f x) (f y))"), []string{"(= (n (f x) y) (n (f y) y))", "(= (f x) (f y))"}, []string{asBounds("(f x)", "(f y)"), asBounds("x", "y")}, []string{"(= x y)", "(= (f x) (f y))"}},
+		{asserted("(= (n (f x) (f y)) (n (f y) (f x)))"), []string{"(= (n (f x) (f y)) (n (f y) (f x)))"}, []string{asBounds("x", "y"), asBounds("(f x)", "(f y)"), asBounds("(f y)", "(f x)")}, []string{"(= x y)", "(= (f x) (f y))", "(= (f y) (f x))"}},
+		{asserted("(= (f 3) (ite p x y))", "(< (f x) 0)", "(g x u)", "(g 3 v)"), []string{"(= (f 3) .0)", "(< (f x) 0)", "(g x u)", "(g 3 v)"}, []string{asBounds(".0", "x"), "(or (not p) (= .0 x))", asBounds(".0", "y"), "(or p (= .0 y))", asBounds("(f 3)", ".0"), asBounds("3", "x"), asBounds("(f 3)", "(f x)"), asBounds("x", "3")}, []string{"(= 3 x)", "(= (f 3) (f x))", "(= x 3)"}},
+		{asserted("(= w z)", "(= (k w) (k z))", "(= (h r w x) (h r z x))"), []string{"(= w z)", "(= (k w) (k z))", "(= (h r w x) (h r z x))"}, []string{asBounds("(h r w x)", "(h r z x)")}, []string{"(= w z)", "(= (h r w x) (h r z x))"}},
 		{asserted("(g x u)", "(g y v)"), []string{"(g x u)", "(g y v)"}, []string{asBounds("x", "y")}, []string{"(= x y)"}},
 		{asserted("(g x u)", "(g x v)"), []string{"(g x u)", "(g x v)"}, nil, nil},
 		{asserted("(= (l u v) (l v u))"), []string{"(= (l u v) (l v u))"}, nil, nil},
@@ -247,7 +253,7 @@ func TestStage9Shared(t *testing.T) {
 		{asserted("(< (h r w x) (h s w y))"), []string{"(< (h r w x) (h s w y))"}, []string{asBounds("r", "s"), asBounds("x", "y"), asBounds("(h r w x)", "(h s w y)")}, []string{"(= r s)", "(= x y)", "(= (h r w x) (h s w y))"}},
 		{asserted("(< (h r w x) (h r z x))"), []string{"(< (h r w x) (h r z x))"}, []string{asBounds("(h r w x)", "(h r z x)")}, []string{"(= w z)", "(= (h r w x) (h r z x))"}},
 		{asserted("(= (k w) (k z))"), []string{"(= (k w) (k z))"}, nil, []string{"(= w z)"}},
-		{asserted("(= w z)", "(= (k w) (k z))"), []string{"(= w z)", "(= (k w) (k z))"}, nil, nil},
+		{asserted("(= w z)", "(= (k w) (k z))"), []string{"(= w z)", "(= (k w) (k z))"}, nil, []string{"(= w z)"}},
 		{asserted("(= z w)", "(= (k w) (k z))"), []string{"(= z w)", "(= (k w) (k z))"}, nil, []string{"(= w z)"}},
 		{asserted("(g x u)", "(< (f y) x)"), []string{"(g x u)", "(< (f y) x)"}, nil, nil},
 		{asserted("(< x y)", "(= u v)"), []string{"(< x y)", "(= u v)"}, nil, nil},
@@ -255,6 +261,6 @@ func TestStage9Shared(t *testing.T) {
 		{asserted("(< (select a x) (select b x))"), []string{"(< (select a x) (select b x))"}, []string{asBounds("(select a x)", "(select b x)")}, []string{"(= (select a x) (select b x))"}},
 		{asserted("(< (select a x) 0)", "(< (select d y) 0.0)"), []string{"(< (select a x) 0)", "(< (select d y) 0.0)"}, nil, nil},
 		{asserted("(= (select c #b0) (select c #b1))"), []string{"(= (select c #b0) (select c #b1))"}, nil, []string{"(= #b0 #b1)"}},
-		{asserted("(< (f (ite p x y)) (f x))"), []string{"(< (f .0) (f x))"}, []string{asBounds(".0", "x"), "(or (not p) (= .0 x))", asBounds(".0", "y"), "(or p (= .0 y))", asBounds("(f .0)", "(f x)")}, []string{"(= (f .0) (f x))"}},
+		{asserted("(< (f (ite p x y)) (f x))"), []string{"(< (f .0) (f x))"}, []string{asBounds(".0", "x"), "(or (not p) (= .0 x))", asBounds(".0", "y"), "(or p (= .0 y))", asBounds("(f .0)", "(f x)")}, []string{"(= .0 x)", "(= (f .0) (f x))"}},
 	})
 }

@@ -283,9 +283,7 @@ func (p *plainLowerer) tellShared() {
 func (p *plainLowerer) shareOne(k1, k2 int) {
 	switch p.info(k1).Kind {
 	case impl.SortInt, impl.SortReal, impl.SortBits:
-		before := len(p.terms)
-		id := p.headed("=", []int{k1, k2})
-		if id >= before {
+		if id := p.headed("=", []int{k1, k2}); !slices.Contains(p.Shared, id) {
 			p.Shared = append(p.Shared, id)
 		}
 	}
