@@ -229,24 +229,30 @@ func boolTerms(b impl.Bank) []int {
 	return ids
 }
 
-// drawTold draws a bank of terms that are told by others, deep within each other.
-func drawTold(r *rand.Rand, steps int) impl.Bank {
-	sorts := []string{"Bool", "Int", "Real", "U", bitsOf(2), longArray, arrayOf("U", bitsOf(2)), arrayOf(bitsOf(2), "U"), arrayOf("Real", "Int")}
+// drawnFrom begins a drawn bank: the functions, and two constants of each sort. What it hands out with it draws one of its terms
+// by the sort, a late one rather than an early one.
+func drawnFrom(r *rand.Rand, sorts []string, funs ...impl.Fun) (h *termHeap, of func(sort string) int) {
 	b := impl.NewBank()
-	b.Sorts = valueOwn()
-	b.Funs = []impl.Fun{{Name: "f", Args: []string{"Int"}, Sort: "Int"}, {Name: "g", Args: []string{"U", bitsOf(2)}, Sort: "Real"}, {Name: "h", Args: []string{"Int", "U", "Real"}, Sort: "U"}, {Name: "q", Args: []string{bitsOf(2), "Int"}, Sort: "Bool"}, {Name: "w", Args: []string{bitsOf(2)}, Sort: bitsOf(2)}}
+	b.Sorts, b.Funs = valueOwn(), funs
 	for i, sort := range append(slices.Clone(sorts), sorts...) {
 		b.Funs = append(b.Funs, impl.Fun{Name: "c" + strconv.Itoa(i), Sort: sort})
 		b.Terms = append(b.Terms, constant("c"+strconv.Itoa(i), sort))
 	}
-	h := heapOn(b)
-	of := func(sort string) int {
+	h = heapOn(b)
+	return h, func(sort string) int {
 		for {
 			if id := max(r.Intn(len(h.bank.Terms)), r.Intn(len(h.bank.Terms))); h.bank.Terms[id].Sort == sort {
 				return id
 			}
 		}
 	}
+}
+
+// drawTold draws a bank of terms that are told by others, deep within each other.
+func drawTold(r *rand.Rand, steps int) impl.Bank {
+	sorts := []string{"Bool", "Int", "Real", "U", bitsOf(2), longArray, arrayOf("U", bitsOf(2)), arrayOf(bitsOf(2), "U"), arrayOf("Real", "Int")}
+	h, of := drawnFrom(r, sorts, impl.Fun{Name: "f", Args: []string{"Int"}, Sort: "Int"}, impl.Fun{Name: "g", Args: []string{"U", bitsOf(2)}, Sort: "Real"}, impl.Fun{Name: "h", Args: []string{"Int", "U", "Real"}, Sort: "U"}, impl.Fun{Name: "q", Args: []string{bitsOf(2), "Int"}, Sort: "Bool"}, impl.Fun{Name: "w", Args: []string{bitsOf(2)}, Sort: bitsOf(2)})
+	b := h.bank
 	for range steps {
 		sort := sorts[r.Intn(len(sorts))]
 		array := sorts[5+r.Intn(4)]
