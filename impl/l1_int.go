@@ -127,12 +127,17 @@ func readInteger(s string) (integer, bool) {
 	if !IsInt(s) {
 		return integer{}, false
 	}
+	return cutInteger(s), true
+}
+
+// cutInteger is for what is an int text but for its length.
+func cutInteger(s string) integer {
 	digits := strings.TrimPrefix(s, "-")
 	limbs := make([]uint32, 0, len(digits)/limbDigits+1)
 	for end := len(digits); end > 0; end -= limbDigits {
 		limbs = append(limbs, readLimb(digits[max(0, end-limbDigits):end]))
 	}
-	return makeInteger(len(digits) < len(s), limbs), true
+	return makeInteger(len(digits) < len(s), limbs)
 }
 
 func readLimb(digits string) uint32 {
@@ -150,6 +155,15 @@ func makeInteger(neg bool, limbs []uint32) integer {
 
 // text is "" where the number has more than IntDigits digits: that is no int text.
 func (a integer) text() string {
+	text := a.longText()
+	if len(strings.TrimPrefix(text, "-")) > IntDigits {
+		return ""
+	}
+	return text
+}
+
+// longText is the text of the number, however many digits it has.
+func (a integer) longText() string {
 	if a.isZero() {
 		return "0"
 	}
@@ -158,9 +172,6 @@ func (a integer) text() string {
 		padded = appendLimb(padded, limb)
 	}
 	digits := strings.TrimLeft(string(padded), "0")
-	if len(digits) > IntDigits {
-		return ""
-	}
 	if a.neg {
 		return "-" + digits
 	}
