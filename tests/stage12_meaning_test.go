@@ -135,6 +135,17 @@ func drawRows(r *rand.Rand, cols, n, size, dense int, at []int) []impl.LinRow {
 	return rows
 }
 
+func drawLongRows(r *rand.Rand, cols, n int) []impl.LinRow {
+	rows := drawRows(r, cols, n, 1, 10, nil)
+	for i := range rows {
+		for col := range rows[i].Coefs {
+			rows[i].Coefs[col] = drawInt(r, 40)
+		}
+		rows[i].Bound = drawInt(r, 40)
+	}
+	return rows
+}
+
 func drawAt(r *rand.Rand, cols, size int) []int {
 	at := make([]int, cols)
 	for col := range at {
@@ -179,13 +190,7 @@ func TestStage12DrawnLong(t *testing.T) {
 	var met [2]int
 	for range 1500 {
 		cols := 1 + r.Intn(3)
-		rows := drawRows(r, cols, 1+r.Intn(5), 1, 10, nil)
-		for i := range rows {
-			for col := range rows[i].Coefs {
-				rows[i].Coefs[col] = drawInt(r, 40)
-			}
-			rows[i].Bound = drawInt(r, 40)
-		}
+		rows := drawLongRows(r, cols, 1+r.Intn(5))
 		a := checkIneqs(t, cols, rows)
 		met[oneOf(a.point.Ok)]++
 		checkRightRows(t, cols, rows)
