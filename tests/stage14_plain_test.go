@@ -458,7 +458,7 @@ func (p *plainSearch) wholeRound() {
 	p.conflict(p.addLemma(impl.Lemma{Kind: impl.LemLinear, Lits: lemma, Tree: whole.Tree}))
 }
 
-// lastOf is the literal of a clause that became false last; skip is none of these.
+// lastOf is the literal of a clause that became false last, of those that are meant; 0 where there is none.
 func (p *plainSearch) lastOf(clause []int, isMeant func(lit int) bool) int {
 	for i := len(p.trail) - 1; i >= 0; i-- {
 		if lit := -p.trail[i]; slices.Contains(clause, lit) && isMeant(lit) {

@@ -277,7 +277,7 @@ func TestStage14Conflicts(t *testing.T) {
 	checkFoundRows(t, u, []foundRow{
 		// (= a c) 2, p 3, (= (f a) (f c)) 4, by the asks 2 and 3 of levels 1 and 2; -4 clashes at level 3, with 2 alone: back to level 1, where 4 follows
 		{"(check-sat-assuming ((= a c) p))(get-value ((= (f a) (f c))))", sat(8, "TTTT")},
-		// p 2, (= a c) 3, q 4 (so p says both) : [1] .. ; the clash has two literals of level 1, and is resolved till p is left
+		// p is 2, (= a c) 3, (= (f a) (f c)) 5, and the roots are -4 and -6: the clash has two literals of level 1, and is resolved till p is left
 		{"(assert (=> p (= a c)))(assert (=> p (not (= (f a) (f c)))))(check-sat-assuming (p))",
 			unsat(9, []int{0}, equal(-3, 5), chain([]int{-2, 4, 6}, 9, 6, 3), chain([]int{-2}, 10, 8, 7))},
 	})
