@@ -59,7 +59,7 @@ func resolvedOf(one, other []int) (both []int, isRight bool) {
 // isRightLemma is what the checker of chapter 15 asks, as it is said there; clauses are those ahead of the lemma.
 func (c searchCase) isRightLemma(cnf impl.Cnf, clauses [][]int, lemma impl.Lemma) bool {
 	for i, lit := range lemma.Lits {
-		if lit == 0 || varOf(lit) > cnf.Vars || i > 0 && varOf(lit) <= varOf(lemma.Lits[i-1]) {
+		if lit == 0 || lit < -cnf.Vars || lit > cnf.Vars || i > 0 && varOf(lit) <= varOf(lemma.Lits[i-1]) {
 			return false
 		}
 	}
