@@ -61,7 +61,7 @@ func TestStage15LastLemma(t *testing.T) {
 	// a literal of no ask, of an ask that is not in the core, of an ask itself
 	c.checkProofRows(t, false, proofOf([]int{0, 1}, last), proofOf([]int{0, 2}, last), proofOf([]int{1, 2}, last), proofOf([]int{1, 2, 3}, last), proofOf(nil, last),
 		proofOf(three(), last, chain([]int{1}, 0)), proofOf(three(), chain([]int{1}, 0)), proofOf(three(), chain([]int{2, -4}, 1)), proofOf(three(), chain([]int{-3, -4}, 2)), proofOf(upTo(4), chain([]int{2, -4}, 1)))
-	// no Lits at all: any core will do, none too
+	// what is asked is false, so its opposite is the first clause
 	c = readAsks(t, boolConsts+"(assert (and p (not p)))(assert r)")
 	c.mustHave(t, []int{-1, 2}, []int{1})
 	c.checkProofRows(t, true, proofOf([]int{0}, chain([]int{1}, 0)), proofOf([]int{0, 1}, chain([]int{1}, 0)))
