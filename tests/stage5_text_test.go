@@ -289,11 +289,8 @@ func TestStage5LongScriptText(t *testing.T) {
 	}
 }
 
-// Each way to spoil a good script.
-func TestStage5NoScripts(t *testing.T) {
-	if !impl.GoodScript(goodScript()) || !impl.GoodScript(impl.Script{Bank: impl.NewBank()}) {
-		t.Fatal("these are good")
-	}
+// noScripts are scripts that are not good: each way to spoil a good one.
+func noScripts() (scripts []impl.Script) {
 	command := func(c impl.Command) func(*impl.Script) {
 		return func(s *impl.Script) { s.Commands = append(s.Commands, c) }
 	}
@@ -351,9 +348,19 @@ func TestStage5NoScripts(t *testing.T) {
 			spoilers = append(spoilers, command(x))
 		}
 	}
-	for i, spoiler := range spoilers {
+	for _, spoiler := range spoilers {
 		s := goodScript()
 		spoiler(&s)
+		scripts = append(scripts, s)
+	}
+	return scripts
+}
+
+func TestStage5NoScripts(t *testing.T) {
+	if !impl.GoodScript(goodScript()) || !impl.GoodScript(impl.Script{Bank: impl.NewBank()}) {
+		t.Fatal("these are good")
+	}
+	for i, s := range noScripts() {
 		kept := copiedScript(s)
 		if impl.GoodScript(s) || impl.ScriptText(s) != "" {
 			t.Errorf("spoiler %d: %+v", i, s.Commands[max(0, len(s.Commands)-1):])
